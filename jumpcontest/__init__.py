@@ -1,0 +1,1 @@
+"""A high jump, or a pole vault: who's up, where the bar is, who's out, who's ahead."""
