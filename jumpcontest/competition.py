@@ -2,7 +2,7 @@
 
 from jumpcontest.athlete import Athlete, CLEARED
 from jumpcontest.jumpoff import JumpOff
-from jumpcontest.ranking import first_ones
+from jumpcontest.ranking import placed, standing
 
 ON = 0
 MAY_JUMP_OFF = 1
@@ -20,15 +20,16 @@ class Competition:
         self.heights = list(heights)
         self.bar = heights[0]
         self.jump_off = None
+        self.is_declined = False
 
     def phase(self):
         if len(self.not_out()) > 0:
             return ON
         if self.jump_off is not None:
             return OVER if self.jump_off.is_over() else IN_JUMP_OFF
-        if len(first_ones(self.athletes)) > 1:
-            return MAY_JUMP_OFF
-        return OVER
+        if self.is_declined or len(self.first_ones()) < 2:
+            return OVER
+        return MAY_JUMP_OFF
 
     def bar_now(self):
         """The jump-off's bar while there is one on; else where it was last in the contest."""
@@ -45,6 +46,12 @@ class Competition:
     def not_out(self):
         """The numbers of those who aren't out, rising."""
         return [number for number in range(len(self.athletes)) if not self.is_out(number)]
+
+    def who_is_in(self):
+        """In a jump-off the numbers of those who are in it still, else of those who aren't out; rising."""
+        if self.phase() == IN_JUMP_OFF:
+            return list(self.jump_off.still_in)
+        return self.not_out()
 
     def due(self):
         """The numbers of those who are due, rising."""
@@ -89,7 +96,23 @@ class Competition:
         if len(self.due()) == 0 and len(self.not_out()) > 0:
             self.bar = self.height_behind(self.bar)
 
+    def order(self):
+        """Of each who has cleared a height, in order: a tuple of the number and the place."""
+        standings = {}
+        for number, athlete in enumerate(self.athletes):
+            if athlete.greatest_cleared() > 0:
+                rounds = 0 if self.jump_off is None else self.jump_off.rounds_of(number)
+                standings[number] = standing(athlete, rounds)
+        return placed(standings)
+
+    def first_ones(self):
+        """The numbers of those who are first, rising; nobody, if no height has been cleared."""
+        return [number for number, place in self.order() if place == 1]
+
     def start_jump_off(self):
-        numbers = first_ones(self.athletes)
+        numbers = self.first_ones()
         cleared = self.athletes[numbers[0]].greatest_cleared()
         self.jump_off = JumpOff(numbers, self.height_behind(cleared), self.turn)
+
+    def decline_jump_off(self):
+        self.is_declined = True

@@ -9,6 +9,7 @@ class JumpOff:
         self.bar = bar
         self.turn = turn
         self.round_clears = []
+        self.come_through = {}
 
     def is_over(self):
         return len(self.still_in) == 1
@@ -29,3 +30,9 @@ class JumpOff:
         else:
             self.still_in = cleared
             self.bar = self.bar + self.turn
+        for number in self.still_in:
+            self.come_through[number] = self.rounds_of(number) + 1
+
+    def rounds_of(self, number):
+        """How many rounds they've come through; more for who went out later, most for who's in it still."""
+        return self.come_through.get(number, 0)

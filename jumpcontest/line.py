@@ -1,8 +1,8 @@
 """A line of calls about one contest: what is refused, and what is answered."""
 
 from jumpcontest.athlete import CLEARED, FAILED, PASSED
-from jumpcontest.competition import Competition, IN_JUMP_OFF, ON
-from jumpcontest.reading import BEGIN, JUMP, LEAVE, UP
+from jumpcontest.competition import Competition, IN_JUMP_OFF, MAY_JUMP_OFF, ON
+from jumpcontest.reading import BEGIN, CARD, HEIGHT, JUMP, LEAVE, OFF, ORDER, UP
 from jumpcontest.refusals import NOT_ALLOWED, NOT_NOW, WRONG_NUMBER
 
 MOST_ATHLETES = 20
@@ -13,6 +13,9 @@ LEAST_HEIGHT = 50
 MOST_TOLD_HEIGHT = 700
 MOST_PUT_HEIGHT = 999
 NO_PASS_FROM = 950
+
+NOT_WANTED = 0
+WANTED = 1
 
 
 def are_heights(heights):
@@ -44,8 +47,16 @@ class Line:
             return self.jump(numbers[0])
         if call == LEAVE:
             return self.leave(numbers[0])
-        # The reading lets no other call through than height here.
-        return self.height(numbers[0])
+        if call == HEIGHT:
+            return self.height(numbers[0])
+        if call == OFF:
+            return self.off(numbers[0])
+        if call == CARD:
+            return self.card(numbers[0])
+        if call == ORDER:
+            return self.order()
+        # The reading lets no other call through than now here.
+        return self.now()
 
     def begin(self, how_many, rise, turn, heights):
         if not 1 <= how_many <= MOST_ATHLETES or not 1 <= rise <= MOST_RISE or not 1 <= turn <= MOST_TURN:
@@ -93,6 +104,38 @@ class Line:
             return [NOT_ALLOWED]
         self.contest.put_bar(bar)
         return self.with_state(not_out[0])
+
+    def off(self, wanted):
+        if wanted not in (NOT_WANTED, WANTED):
+            return [WRONG_NUMBER]
+        if self.contest.phase() != MAY_JUMP_OFF:
+            return [NOT_NOW]
+        # Counted ahead of the jump-off, which tells them apart.
+        how_many = len(self.contest.first_ones())
+        if wanted == NOT_WANTED:
+            self.contest.decline_jump_off()
+            return [how_many]
+        self.contest.start_jump_off()
+        return [how_many, self.contest.bar_now()]
+
+    def card(self, number):
+        if not self.contest.has_athlete(number):
+            return [WRONG_NUMBER]
+        athlete = self.contest.athletes[number]
+        told = [athlete.greatest_cleared(), athlete.failures_in_a_row(), 1 if athlete.is_out() else 0]
+        for jump in athlete.jumps:
+            told.extend(jump)
+        return told
+
+    def order(self):
+        ranked = self.contest.order()
+        told = [len(ranked)]
+        for number, place in ranked:
+            told.extend([number, place, self.contest.athletes[number].greatest_cleared()])
+        return told
+
+    def now(self):
+        return [self.contest.phase(), self.contest.bar_now()] + self.contest.who_is_in()
 
     def may_pass(self):
         return self.contest.phase() != IN_JUMP_OFF and self.contest.bar_now() < NO_PASS_FROM

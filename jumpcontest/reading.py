@@ -4,9 +4,13 @@ BEGIN = 1
 UP = 2
 JUMP = 3
 LEAVE = 4
+HEIGHT = 5
+OFF = 6
+CARD = 7
+ORDER = 8
 
 # By the number of a call: how many numbers it has ahead of its row, if it has one.
-PLAIN_NUMBERS = {1: 3, 2: 0, 3: 1, 4: 1, 5: 1}
+PLAIN_NUMBERS = {1: 3, 2: 0, 3: 1, 4: 1, 5: 1, 6: 1, 7: 1, 8: 0, 9: 0}
 
 
 def read_calls(calls):

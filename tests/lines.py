@@ -38,6 +38,22 @@ def height(bar):
     return [5, bar]
 
 
+def off(wanted=1):
+    return [6, wanted]
+
+
+def card(athlete):
+    return [7, athlete]
+
+
+def order():
+    return [8]
+
+
+def now():
+    return [9]
+
+
 def split(told):
     """The answers as a list of lists, without the counts ahead of them."""
     found = []
@@ -59,6 +75,21 @@ def last(*calls):
     return run(*calls)[-1]
 
 
+def behind(calls, *more):
+    """The answers to the calls in more alone, that stand behind the others in one line."""
+    return run(*calls, *more)[len(calls):]
+
+
 def jumps(hows):
     """A call for each sign: o clears, x fails, - passes."""
     return [jump({'x': 0, 'o': 1, '-': 2}[sign]) for sign in hows.replace(' ', '')]
+
+
+def two(turn=2):
+    """Calls: athletes 0 and 2 of three are first and alike at 110, 1 is third; all are out, the bar at 120."""
+    return [begin(3, 5, turn, [100, 110, 120]), *jumps('ooo oxoxx xxxxxx')]
+
+
+def alike(athletes, turn=3, rise=5, heights=(100,)):
+    """Calls: all clear the first height at once and fail three times at the next one."""
+    return [begin(athletes, rise, turn, heights), *jumps('o' * athletes + 'x' * 3 * athletes)]

@@ -2,7 +2,8 @@
 
 import unittest
 
-from tests.lines import begin, clear, fail, height, jumps, last, leave, run, skip, up
+from tests.lines import (alike, begin, behind, card, clear, fail, height, jumps, last, leave, now, off, order, run,
+                         skip, two, up)
 
 
 class BeginTest(unittest.TestCase):
@@ -67,6 +68,25 @@ class BeginTest(unittest.TestCase):
     def test_begin_when_first_ones_are_alike(self):
         self.assertEqual(run(begin(2, 5, 2, [100]), *jumps('oo xxxxxx'), begin(1, 5, 2, [90]), up())[-3:],
                          [[1, 1, 105], [0], [0, 90, 1]])
+
+    def test_nothing_of_the_contest_before_it_is_left(self):
+        new = [begin(2, 7, 3, [60]), now(), order(), card(0), card(1), card(2), off(1), up(),
+               *jumps('oo xxxxxx'), now(), order(), card(0), off(1), *jumps('xx ox'), order(), off(1), now()]
+        alone = run(*new)
+        self.assertEqual(alone[1:8], [[0, 60, 0, 1], [0], [0, 0, 0], [0, 0, 0], [-1], [-4], [0, 60, 1]])
+        self.assertEqual(alone[16:20], [[1, 67], [2, 0, 1, 60, 1, 1, 60], [60, 3, 1, 60, 1, 67, 0, 67, 0, 67, 0],
+                                        [2, 67]])
+        self.assertEqual(alone[20:], [[0, 2, 67], [1, 2, 64], [0, 2, 64], [1, 3, 67], [2, 0, 1, 60, 1, 2, 60],
+                                      [-4], [3, 67]])
+        for old in ([begin(3), *jumps('xox'), leave(2)], alike(5), [*alike(5), off(0)], [*alike(5), off(1)],
+                    [*two(), off(1), *jumps('oo x')], [*two(), off(1), *jumps('ox')], [begin(1), leave(0)]):
+            self.assertEqual(behind(old, *new), alone)
+
+    def test_a_refused_begin_leaves_all_as_it_was(self):
+        asked = [now(), order(), card(0), up(), off(2)]
+        for old in ([], [begin(3), *jumps('xox'), leave(2)], alike(5), [*alike(5), off(0)],
+                    [*two(), off(1), *jumps('oo x')], [*two(), off(1), *jumps('ox')]):
+            self.assertEqual(behind([*old, begin(21)], *asked), behind(old, *asked))
 
     def test_a_refused_begin_changes_nothing(self):
         wrong = [begin(0), begin(2, 0), begin(2, 5, 0), begin(2, 5, 2, []), begin(2, 5, 2, [49]),
